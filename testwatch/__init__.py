@@ -1,0 +1,1 @@
+"""Testwatch: units that test one another."""
