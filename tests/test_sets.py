@@ -6,22 +6,7 @@ from testwatch.errors import NumberError, SetError
 from testwatch.plans import Plan
 from testwatch.units import Quiet, Unit
 from tests.helpers import KINDS, WORDS, Case, expected_allowed, sets_of, state_of, units_of
-
-# For a plan with three tests.
-NO_NUMBERS = (-1, -2, -3, 3, 4, 9, 9999999999999, -9999999999999, True, False, None, '', '0',
-              '1', (), (0,), (0, 1), [], [0], {}, {0: 1})
-# For a plan with three units.
-NO_SETS = (
-    [], [0], [0, 1], [0, 1, 2], None, True, False, 0, 1, 2, '', '0', '01', 'bad', {}, {0: True},
-    {0: 1, 1: 2},
-    (1, 0), (2, 0), (2, 1), (0, 2, 1), (1, 0, 2), (2, 1, 0),
-    (0, 0), (1, 1), (2, 2), (0, 0, 1), (0, 1, 1), (0, 1, 0), (0, 1, 2, 2), (0, 0, 1, 2),
-    (3,), (0, 3), (0, 1, 2, 3), (-1,), (-1, 0), (-3, 1), (9,), (0, 9999999999999),
-    (-9999999999999,),
-    (True,), (False,), (0, True), (False, 1), (True, 2), (False, True), (False, True, 2),
-    (None,), (0, None), ('0',), ('bad',), ('0', '1'), (0, '1'), ('',),
-    ((),), ((0,),), (0, (1,)), ([],), ([0],), (0, [1]), ({},), ((0, 1), (1, 2)),
-)
+from tests.wrong import NO_NUMBERS, NO_SETS
 
 
 class AllowedTest(Case):

@@ -1,4 +1,7 @@
-"""What a value must be like to be a number, tests or a set."""
+"""What a value must be like to be a number, tests, a set or reports."""
+
+# In the order in which a common report is looked for.
+REPORTS = ("bad", "good", "silent")
 
 
 def is_integer(thing):
@@ -26,8 +29,30 @@ def are_tests(thing, many):
     return len(set(thing)) == len(thing)
 
 
-def is_set(thing, many):
-    """Tell whether a value is an ascending tuple of different units out of so many."""
+def are_units(thing, many):
+    """Tell whether a value is a tuple of different units out of so many, in any order."""
     if not isinstance(thing, tuple) or not all([is_index(unit, many) for unit in thing]):
         return False
-    return list(thing) == sorted(set(thing))
+    return len(set(thing)) == len(thing)
+
+
+def is_set(thing, many):
+    """Tell whether a value is an ascending tuple of different units out of so many."""
+    return are_units(thing, many) and list(thing) == sorted(thing)
+
+
+def is_report(thing):
+    """Tell whether a value is one of the three reports."""
+    return isinstance(thing, str) and thing in REPORTS
+
+
+def is_row(thing, many):
+    """Tell whether a value is a tuple of so many reports."""
+    return isinstance(thing, tuple) and len(thing) == many and all([is_report(report) for report in thing])
+
+
+def is_partial_row(thing, many):
+    """Tell whether a value is a tuple of so many reports, some perhaps None."""
+    if not isinstance(thing, tuple) or len(thing) != many:
+        return False
+    return all([report is None or is_report(report) for report in thing])

@@ -95,7 +95,11 @@ class Plan:
             raise NumberError("this is not the number of a test")
         if not is_set(bad, len(self._units)):
             raise SetError("a set is an ascending tuple of different units")
-        tester, tested = self.tests[number]
+        return self.may_report(self.tests[number], bad)
+
+    def may_report(self, test, bad):
+        """Return the reports that any test of the units may give, without a check."""
+        tester, tested = test
         verdict = Unit.verdict(tested in bad)
         return self._units[tester].allowed(tester in bad, verdict)
 
