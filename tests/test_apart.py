@@ -107,6 +107,31 @@ class ToldApartTest(ApartCase):
                 for other in sets:
                     self.check(plan, one, other)
 
+    def test_against_what_a_plan_allows(self):
+        plans = [Plan(*units_of(*[kind] * 4), tests=Plan.full(4).tests) for kind in KINDS]
+        plans += [Plan(*units_of(*kinds), tests=Plan.full(4).tests[::-1])
+                  for kinds in (KINDS[:4], KINDS[4:], KINDS[::2], KINDS[1::2])]
+        plans += [plan for plan in some_plans(80, 4, 13) if plan.many == 4]
+        for plan in plans:
+            for one, other in product(sets_of(4), repeat=2):
+                self.check_by_asking(plan, one, other)
+
+    def check_by_asking(self, plan, one, other):
+        """Check what is told of two sets by asking the plan test by test."""
+        reports = []
+        for number in range(len(plan.tests)):
+            allowed = plan.allowed(number, one), plan.allowed(number, other)
+            both = [report for report in REPORTS if report in allowed[0] and report in allowed[1]]
+            if not both:
+                self.same(told_apart(plan, one, other), number)
+                with self.assertRaises(ApartError) as caught:
+                    common(plan, one, other)
+                self.same(caught.exception.number, number)
+                return
+            reports.append(both[0])
+        self.same(told_apart(plan, one, other), None)
+        self.same(common(plan, one, other), tuple(reports))
+
     def test_in_either_order(self):
         for plan in some_plans(20, 4, 11):
             for one in sets_of(plan.many):

@@ -116,6 +116,58 @@ class FindsTest(Case):
                 self.same(finds(plan, most), finds(plan, most))
 
 
+class AllPairsTest(Case):
+    """finds, confusion and strength, compared with told_apart and common asked for all pairs of sets."""
+
+    def first_pair(self, plan, most):
+        for one, other in combinations(sets_of(plan.many, most), 2):
+            if told_apart(plan, one, other) is None:
+                return one, other, common(plan, one, other)
+        return None
+
+    def check(self, plan, greatest):
+        """Check all that is told of a plan for most up to a greatest one."""
+        found = []
+        for most in range(greatest + 1):
+            pair = self.first_pair(plan, most)
+            self.same(confusion(plan, most), pair)
+            self.same(finds(plan, most), pair is None)
+            if pair is None:
+                found.append(most)
+        self.assertEqual(found, list(range(len(found))))
+        if len(found) <= greatest or greatest == plan.many:
+            self.same(strength(plan), found[-1])
+        else:
+            self.assertGreaterEqual(strength(plan), greatest)
+
+    def test_one_and_two_units_of_all_kinds(self):
+        for kind in KINDS:
+            self.check(Plan(*units_of(kind)), 1)
+        for kinds in product(KINDS, repeat=2):
+            for tests in ((), ((0, 1),), ((1, 0),), ((1, 0), (0, 1))):
+                self.check(Plan(*units_of(*kinds), tests=tests), 2)
+
+    def test_three_and_four_units_of_all_kinds(self):
+        for many in (3, 4):
+            ring = tuple((unit, (unit + 1) % many) for unit in range(many))
+            for kinds in [[kind] * many for kind in KINDS] + [KINDS[:many], KINDS[2:][:many], KINDS[-many:]]:
+                for tests in (Plan.full(many).tests, Plan.full(many).tests[::-2], ring, ring[1:], ()):
+                    self.check(Plan(*units_of(*kinds), tests=tests), many)
+        for plan in some_plans(150, 4, 26):
+            self.check(plan, plan.many)
+
+    def test_nine_units(self):
+        full, order = Plan.full(9).tests, [5, 0, 7, 3, 8, 1, 4, 6, 2]
+        near = tuple((unit, order[(at + by) % 9]) for at, unit in enumerate(order) for by in (1, 2))
+        for kinds in [[kind] * 9 for kind in KINDS] + [KINDS + ('plain',), ('mild',) + KINDS[::-1]]:
+            for tests in (full, near, near[:-1], near[::2], full[:20:-1]):
+                self.check(Plan(*units_of(*kinds), tests=tests), 2)
+
+    def test_six_units_and_any_most(self):
+        for plan in some_plans(12, 6, 27):
+            self.check(plan, plan.many)
+
+
 class IsConfusionTest(Case):
 
     def judged(self, plan, most, thing, expected):

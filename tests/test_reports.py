@@ -1,6 +1,7 @@
 """[20]: sets that explain reports, and what is sure."""
 
 from itertools import product
+from random import Random
 
 from testwatch.errors import NoneError
 from testwatch.plans import Plan
@@ -99,6 +100,45 @@ class ExplainsTest(Case):
                     self.same(explains(plan, reports, bad), False)
         self.same(explains(plan, ('good', 'bad'), (2,)), True)
         self.same(explains(plan, ('bad', 'bad'), (1, 2)), True)
+
+
+class AllSetsTest(Case):
+    """explains, asked for each set, and explanations, which goes through all of them."""
+
+    def check(self, plan, reports):
+        true = [bad for bad in sets_of(plan.many) if explains(plan, reports, bad)]
+        self.same(list(explanations(plan, reports, plan.many)), true)
+        for most in range(plan.many + 1):
+            self.same(list(explanations(plan, reports, most)), [bad for bad in true if len(bad) <= most])
+        if true:
+            sure = sure_of(true, plan.many)
+            self.same((sure_bad(plan, reports, plan.many), sure_good(plan, reports, plan.many)), sure)
+        return true
+
+    def test_all_sets_of_nine_plain_units(self):
+        plan = Plan.full(9)
+        for bad in ((), (4,), (0, 8), (1, 2, 3, 7), tuple(range(5)), tuple(range(9))):
+            for at in (0, -1):
+                # What each test reports: the first or the last report that the set allows.
+                reports = tuple(plan.allowed(number, bad)[at] for number in range(72))
+                self.assertIn(bad, self.check(plan, reports))
+
+    def test_all_sets_of_nine_units_of_all_kinds(self):
+        random = Random(7)
+        for plan in some_plans(20, 9, 8) + [with_tests(Plan(*units_of(*KINDS, 'mute')), Plan.full(9).tests)]:
+            for bad in random.sample(sets_of(plan.many), 2):
+                allowed = [plan.allowed(number, bad) for number in range(len(plan.tests))]
+                if () not in allowed:
+                    self.assertIn(bad, self.check(plan, tuple(random.choice(words) for words in allowed)))
+
+    def test_the_place_of_the_report_that_is_not_allowed(self):
+        plan = Plan.full(9)
+        for number in range(72):
+            reports = ('good',) * number + ('bad',) + ('good',) * (71 - number)
+            self.same(explains(plan, reports, ()), False)
+            self.same(explains(plan, reports, (plan.tests[number][1],)), False)
+            self.same(explains(plan, reports, tuple(range(9))), True)
+            self.same(list(explanations(plan, reports, 9)), [tuple(range(9))])
 
 
 class ExplanationsTest(Case):

@@ -1,6 +1,5 @@
 """What a value must be like to be a number, tests, a set or reports."""
 
-# In the order in which a common report is looked for.
 REPORTS = ("bad", "good", "silent")
 
 
@@ -11,7 +10,7 @@ def is_integer(thing):
 
 def is_index(thing, many):
     """Tell whether a value is an integer from 0 to many - 1."""
-    return is_integer(thing) and 0 <= thing < many
+    return isinstance(thing, int) and not isinstance(thing, bool) and 0 <= thing < many
 
 
 def is_test(thing, many):
@@ -38,7 +37,14 @@ def are_units(thing, many):
 
 def is_set(thing, many):
     """Tell whether a value is an ascending tuple of different units out of so many."""
-    return are_units(thing, many) and list(thing) == sorted(thing)
+    if not isinstance(thing, tuple):
+        return False
+    least = 0
+    for unit in thing:
+        if not is_integer(unit) or not least <= unit < many:
+            return False
+        least = unit + 1
+    return True
 
 
 def is_report(thing):
@@ -46,13 +52,16 @@ def is_report(thing):
     return isinstance(thing, str) and thing in REPORTS
 
 
+def _is_tuple_of(thing, many, values):
+    # Counting compares only, so that anything may stand in the tuple, and is quicker than a loop.
+    return isinstance(thing, tuple) and len(thing) == many and sum([thing.count(value) for value in values]) == many
+
+
 def is_row(thing, many):
     """Tell whether a value is a tuple of so many reports."""
-    return isinstance(thing, tuple) and len(thing) == many and all([is_report(report) for report in thing])
+    return _is_tuple_of(thing, many, REPORTS)
 
 
 def is_partial_row(thing, many):
     """Tell whether a value is a tuple of so many reports, some perhaps None."""
-    if not isinstance(thing, tuple) or len(thing) != many:
-        return False
-    return all([report is None or is_report(report) for report in thing])
+    return _is_tuple_of(thing, many, REPORTS + (None,))

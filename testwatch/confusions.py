@@ -1,51 +1,56 @@
 """Confusions: how many bad units a plan finds, and what shows that it finds no more."""
 
 from testwatch.arguments import check_most, check_plan, check_set
-from testwatch.checks import REPORTS, is_row, is_set
+from testwatch.checks import is_row, is_set
+from testwatch.choices import FIRST_OF, choices_under, is_explained
 from testwatch.errors import ApartError
-from testwatch.marks import all_bits, bits_in_common, marks_of
-from testwatch.sets import sets_up_to
-from testwatch.tables import is_explained, table_of
+from testwatch.families import Families
+from testwatch.partners import Partners
 
 
-def _first_in_common(plan, number, one, other):
-    """Return the first report of a test that both sets allow, or None."""
-    under_one = plan.allowed(number, one)
-    under_other = plan.allowed(number, other)
-    for report in REPORTS:
-        if report in under_one and report in under_other:
-            return report
-    return None
+def _check_pair(plan, one, other):
+    check_plan(plan)
+    check_set(plan, one)
+    check_set(plan, other)
+
+
+def _shared_choices(plan, one, other):
+    """Yield, for each test, the choice that two sets have in common."""
+    tests = plan.tests
+    for under_one, under_other in zip(choices_under(plan, tests, one), choices_under(plan, tests, other)):
+        yield under_one & under_other
 
 
 def told_apart(plan, one, other):
     """Return the number of the first test that tells two sets apart, or None."""
-    check_plan(plan)
-    check_set(plan, one)
-    check_set(plan, other)
-    for number in range(len(plan.tests)):
-        if _first_in_common(plan, number, one, other) is None:
+    _check_pair(plan, one, other)
+    for number, choice in enumerate(_shared_choices(plan, one, other)):
+        if choice == 0:
             return number
     return None
 
 
 def common(plan, one, other):
     """Return reports that both sets explain."""
-    number = told_apart(plan, one, other)
-    if number is not None:
-        raise ApartError(number)
-    return tuple([_first_in_common(plan, at, one, other) for at in range(len(plan.tests))])
+    _check_pair(plan, one, other)
+    reports = []
+    for number, choice in enumerate(_shared_choices(plan, one, other)):
+        if choice == 0:
+            raise ApartError(number)
+        reports.append(FIRST_OF[choice])
+    return tuple(reports)
 
 
 def _first_confused(plan, most):
     """Return the first two sets of at most so many units that are not told apart, or None."""
-    sets = sets_up_to(plan.many, most)
-    marks = marks_of(plan, plan.tests, sets)
-    every = all_bits(len(plan.tests))
-    for at, bad in enumerate(sets):
-        for later in range(at + 1, len(sets)):
-            if bits_in_common(marks[at], marks[later]) == every:
-                return bad, sets[later]
+    families = Families(plan, most)
+    partners = Partners(plan, families)
+    later = families.everything
+    for at, bad in enumerate(families.sets):
+        later ^= 1 << at
+        family = partners.among(later, bad)
+        if family:
+            return bad, families.first(family)
     return None
 
 
@@ -71,8 +76,7 @@ def is_confusion(plan, most, thing):
         return False
     if len(one) > most or len(other) > most or not is_row(reports, len(plan.tests)):
         return False
-    table = table_of(plan, plan.tests)
-    return is_explained(table, reports, one) and is_explained(table, reports, other)
+    return is_explained(plan, reports, one) and is_explained(plan, reports, other)
 
 
 def finds(plan, most):
@@ -85,13 +89,13 @@ def finds(plan, most):
 def strength(plan):
     """Return the greatest number that the plan finds."""
     check_plan(plan)
-    sets = sets_up_to(plan.many, plan.many)
-    marks = marks_of(plan, plan.tests, sets)
-    every = all_bits(len(plan.tests))
+    families = Families(plan, plan.many)
+    partners = Partners(plan, families)
+    earlier = 0
     # Sets are in order of their size, so that the first set that is not told
     # apart from an earlier one is as small as any.
-    for at, bad in enumerate(sets):
-        for earlier in range(at):
-            if bits_in_common(marks[earlier], marks[at]) == every:
-                return len(bad) - 1
+    for at, bad in enumerate(families.sets):
+        if partners.among(earlier, bad):
+            return len(bad) - 1
+        earlier |= 1 << at
     return plan.many

@@ -3,33 +3,19 @@
 from itertools import combinations
 
 from testwatch.arguments import check_most, check_new_test, check_plan
-from testwatch.checks import REPORTS
 from testwatch.errors import LimitError, WeakError
-from testwatch.marks import all_bits, bits_in_common, marks_of
-from testwatch.reports import explanations
-from testwatch.sets import sets_up_to
-from testwatch.tables import allowed_in, table_of
+from testwatch.marks import all_bits, apart_bits
+from testwatch.reports import all_explaining
 
 # The greatest plan to which tests are added by trying all choices.
 MOST_UNITS = 4
 
 
-def _apart_bits(plan, tests, most):
-    """Return as keys, for every two sets, the bits of the tests that tell them apart."""
-    marks = marks_of(plan, tests, sets_up_to(plan.many, most))
-    every = all_bits(len(tests))
-    bits = {}
-    for at, one in enumerate(marks):
-        for later in range(at + 1, len(marks)):
-            bits[every ^ bits_in_common(one, marks[later])] = True
-    return bits
-
-
 def _bits_if_found(plan, most):
-    """Return what _apart_bits does for a plan that must find most."""
+    """Return what apart_bits does for a plan that must find most."""
     check_plan(plan)
     check_most(plan, most)
-    bits = _apart_bits(plan, plan.tests, most)
+    bits = apart_bits(plan, plan.tests, most)
     if 0 in bits:
         raise WeakError("the plan does not find so many bad units")
     return bits
@@ -67,7 +53,7 @@ def _missing(plan):
 def _bits_to_meet(plan, missing, most):
     """Return, for every two sets that the plan confuses, the bits of missing tests that tell them apart."""
     old = len(plan.tests)
-    bits = _apart_bits(plan, plan.tests + tuple(missing), most)
+    bits = apart_bits(plan, plan.tests + tuple(missing), most)
     return [apart >> old for apart in bits if apart & all_bits(old) == 0]
 
 
@@ -88,22 +74,14 @@ def more(plan, most):
     return None
 
 
-def _most_left(plan, sets, test):
-    """Return how many of the sets can be left by a report of a new test."""
-    line = table_of(plan, (test,))[0]
-    allowed = [allowed_in(line, bad) for bad in sets]
-    return max([len([words for words in allowed if report in words]) for report in REPORTS])
-
-
 def worst(plan, reports, most, test):
     """Return the greatest number of explanations that can be left by a new test."""
-    sets = list(explanations(plan, reports, most))
+    families, family = all_explaining(plan, reports, most)
     check_new_test(plan, test)
-    return _most_left(plan, sets, test)
+    return families.most_left(family, test)
 
 
 def next_test(plan, reports, most):
     """Return (number, test) with the first test whose worst number is the least, or None."""
-    sets = list(explanations(plan, reports, most))
-    choices = [(_most_left(plan, sets, test), test) for test in _missing(plan)]
-    return min(choices, default=None)
+    families, family = all_explaining(plan, reports, most)
+    return min([(families.most_left(family, test), test) for test in _missing(plan)], default=None)

@@ -1,28 +1,17 @@
 """Marks: what a set allows for all tests at once, as bits.
 
-The marks of a set are three integers, one for each report in the order of
-REPORTS. Bit k tells whether that report is allowed for test k. Two sets are
-thus compared in a few steps, however many tests there are.
+The marks of a set are three integers, one for each report. Bit k tells whether
+that report is allowed for test k. Two sets are thus compared in a few steps,
+however many tests there are.
 """
 
-from testwatch.checks import REPORTS
-from testwatch.tables import allowed_in, table_of
+from testwatch.choices import CHOICE_OF, choices_under
+from testwatch.sets import sets_up_to
 
 
-def _marks_of_set(table, bad):
-    marks = [0, 0, 0]
-    for number, line in enumerate(table):
-        allowed = allowed_in(line, bad)
-        for at, report in enumerate(REPORTS):
-            if report in allowed:
-                marks[at] |= 1 << number
-    return tuple(marks)
-
-
-def marks_of(plan, tests, sets):
-    """Return the marks of each set for these tests of the plan's units."""
-    table = table_of(plan, tests)
-    return [_marks_of_set(table, bad) for bad in sets]
+def _marks_of(plan, tests, bad):
+    pairs = [(choice, 1 << number) for number, choice in enumerate(choices_under(plan, tests, bad))]
+    return tuple([sum([bit for choice, bit in pairs if choice & single]) for single in CHOICE_OF.values()])
 
 
 def all_bits(many):
@@ -30,6 +19,12 @@ def all_bits(many):
     return (1 << many) - 1
 
 
-def bits_in_common(one, other):
-    """Return the bits of the tests that do not tell two sets with these marks apart."""
-    return one[0] & other[0] | one[1] & other[1] | one[2] & other[2]
+def apart_bits(plan, tests, most):
+    """Return as keys, for every two sets, the bits of the tests that tell them apart."""
+    marks = [_marks_of(plan, tests, bad) for bad in sets_up_to(plan.many, most)]
+    every = all_bits(len(tests))
+    bits = {}
+    for at, (bads, goods, silents) in enumerate(marks):
+        for others in marks[at + 1:]:
+            bits[every ^ (bads & others[0] | goods & others[1] | silents & others[2])] = True
+    return bits

@@ -1,6 +1,7 @@
 """Plans: which unit tests which."""
 
 from testwatch.checks import are_tests, is_index, is_integer, is_set
+from testwatch.choices import choice_of
 from testwatch.errors import NumberError, PlanError, SetError, TestsError, TextError, UnitsError
 from testwatch.units import Unit, unit_of_kind
 
@@ -34,6 +35,8 @@ class Plan:
             raise TestsError("tests are a tuple of different pairs of different units")
         self._units = units
         self.tests = tests
+        # For each unit what it may report if it is bad.
+        self.choices = tuple([choice_of(unit.words()) for unit in units])
 
     @classmethod
     def plain(cls, many, *tests):
@@ -95,11 +98,7 @@ class Plan:
             raise NumberError("this is not the number of a test")
         if not is_set(bad, len(self._units)):
             raise SetError("a set is an ascending tuple of different units")
-        return self.may_report(self.tests[number], bad)
-
-    def may_report(self, test, bad):
-        """Return the reports that any test of the units may give, without a check."""
-        tester, tested = test
+        tester, tested = self.tests[number]
         verdict = Unit.verdict(tested in bad)
         return self._units[tester].allowed(tester in bad, verdict)
 

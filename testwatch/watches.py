@@ -3,8 +3,7 @@
 from testwatch.arguments import check_most, check_plan
 from testwatch.checks import are_units, is_index, is_partial_row, is_report
 from testwatch.errors import NothingError, NumberError, ReportsError, SetError
-from testwatch.sets import sets_up_to
-from testwatch.tables import is_explained, table_of
+from testwatch.families import Families, count_of
 
 
 class Supposition:
@@ -31,9 +30,8 @@ class Watch:
     def __init__(self, plan, most):
         check_plan(plan)
         check_most(plan, most)
-        self._many = plan.many
-        self._table = table_of(plan, plan.tests)
-        self._sets = sets_up_to(plan.many, most)
+        self._plan = plan
+        self._families = Families(plan, most)
         self._reports = (None,) * len(plan.tests)
         self._earlier = []
         self._suppositions = []
@@ -54,14 +52,14 @@ class Watch:
 
     def assign(self, reports):
         """Replace all reports."""
-        if not is_partial_row(reports, len(self._table)):
+        if not is_partial_row(reports, len(self._plan.tests)):
             raise ReportsError("reports are a tuple with a report or None for each test")
         self._earlier.append(self._reports)
         self._reports = reports
 
     def tell(self, number, report):
         """Take the report of one test."""
-        if not is_index(number, len(self._table)):
+        if not is_index(number, len(self._plan.tests)):
             raise NumberError("this is not the number of a test")
         if not is_report(report):
             raise ReportsError("a report is good, bad or silent")
@@ -75,15 +73,11 @@ class Watch:
 
     def left(self):
         """Yield, in order, the sets for which all reports so far are allowed."""
-        reports = self._reports
-        supposed = self._supposed()
-        for bad in self._sets:
-            if all([unit in bad for unit in supposed]) and is_explained(self._table, reports, bad):
-                yield bad
+        yield from self._families.listed(self._family(()))
 
     def count(self):
         """Return how many sets are left."""
-        return len(list(self.left()))
+        return count_of(self._family(()))
 
     def supposing(self, *bad):
         """Return an object for a with statement in which these units are bad."""
@@ -93,7 +87,7 @@ class Watch:
     def count_supposing(self, *bad):
         """Return how many sets are left that have these units."""
         self._check_units(bad)
-        return len([one for one in self.left() if all([unit in one for unit in bad])])
+        return count_of(self._family(bad))
 
     def heed(self, supposition):
         """Take account of a supposition while its block lasts."""
@@ -101,8 +95,13 @@ class Watch:
         self._suppositions.append(supposition)
 
     def _check_units(self, bad):
-        if not are_units(bad, self._many):
+        if not are_units(bad, self._plan.many):
             raise SetError("suppositions are about different units of the plan")
 
-    def _supposed(self):
-        return [unit for one in self._suppositions if one.depth > 0 for unit in one.bad]
+    def _family(self, bad):
+        """Return the family of the sets that are left and have these units."""
+        family = self._families.explaining(self._reports)
+        supposed = [unit for one in self._suppositions if one.depth > 0 for unit in one.bad]
+        for unit in supposed + list(bad):
+            family &= self._families.with_unit[unit]
+        return family
