@@ -31,8 +31,7 @@ class ChoicesTest(Case):
             for bad in sets_of(plan.many):
                 expected = [choice_of(expected_allowed(plan.kinds, plan.tests, number, bad))
                             for number in range(len(plan.tests))]
-                self.same(list(choices_under(plan, plan.tests, bad)), expected)
-                self.same(list(choices_under(plan, plan.tests[::-1], bad)), expected[::-1])
+                self.same(list(choices_under(plan, bad)), expected)
 
 
 class FamiliesTest(Case):

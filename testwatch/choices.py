@@ -6,6 +6,7 @@ one & other is what two choices have in common, and 0 is a choice of nothing.
 
 BAD = 1
 GOOD = 2
+SILENT = 4
 CHOICE_OF = {"bad": 1, "good": 2, "silent": 4}
 # The first report of each choice, in the order bad, good, silent.
 FIRST_OF = (None, "bad", "good", "bad", "silent", "bad", "good", "bad")
@@ -16,18 +17,18 @@ def choice_of(reports):
     return sum([CHOICE_OF[report] for report in reports])
 
 
-def choices_under(plan, tests, bad):
-    """Yield, for each of these tests, what it may report if just these units are bad."""
+def choices_under(plan, bad):
+    """Yield, for each test of a plan, what it may report if just these units are bad."""
     words = plan.choices
     is_bad = [unit in bad for unit in range(plan.many)]
     truth = [BAD if unit in bad else GOOD for unit in range(plan.many)]
-    for tester, tested in tests:
+    for tester, tested in plan.tests:
         yield words[tester] if is_bad[tester] else truth[tested]
 
 
 def is_explained(plan, reports, bad):
     """Tell whether a set explains the reports of a plan."""
-    for report, choice in zip(reports, choices_under(plan, plan.tests, bad)):
+    for report, choice in zip(reports, choices_under(plan, bad)):
         if not choice & CHOICE_OF[report]:
             return False
     return True

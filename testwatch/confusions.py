@@ -16,8 +16,7 @@ def _check_pair(plan, one, other):
 
 def _shared_choices(plan, one, other):
     """Yield, for each test, the choice that two sets have in common."""
-    tests = plan.tests
-    for under_one, under_other in zip(choices_under(plan, tests, one), choices_under(plan, tests, other)):
+    for under_one, under_other in zip(choices_under(plan, one), choices_under(plan, other)):
         yield under_one & under_other
 
 

@@ -5,13 +5,8 @@ that report is allowed for test k. Two sets are thus compared in a few steps,
 however many tests there are.
 """
 
-from testwatch.choices import CHOICE_OF, choices_under
+from testwatch.choices import BAD, GOOD, SILENT
 from testwatch.sets import sets_up_to
-
-
-def _marks_of(plan, tests, bad):
-    pairs = [(choice, 1 << number) for number, choice in enumerate(choices_under(plan, tests, bad))]
-    return tuple([sum([bit for choice, bit in pairs if choice & single]) for single in CHOICE_OF.values()])
 
 
 def all_bits(many):
@@ -19,12 +14,43 @@ def all_bits(many):
     return (1 << many) - 1
 
 
+class UnitBits:
+    """For each unit, the bits of the tests that it makes and of those about it."""
+
+    def __init__(self, plan, tests):
+        self.every = all_bits(len(tests))
+        self.made = [0] * plan.many
+        self.about = [0] * plan.many
+        for number, (tester, tested) in enumerate(tests):
+            self.made[tester] |= 1 << number
+            self.about[tested] |= 1 << number
+        self._words = plan.choices
+
+    def marks_of(self, bad):
+        """Return the marks of a set."""
+        untrue = accused = 0
+        bads = goods = silents = 0
+        for unit in bad:
+            made = self.made[unit]
+            words = self._words[unit]
+            untrue |= made
+            accused |= self.about[unit]
+            if words & BAD:
+                bads |= made
+            if words & GOOD:
+                goods |= made
+            if words & SILENT:
+                silents |= made
+        true = self.every ^ untrue
+        return bads | true & accused, goods | true & ~accused, silents
+
+
 def apart_bits(plan, tests, most):
     """Return as keys, for every two sets, the bits of the tests that tell them apart."""
-    marks = [_marks_of(plan, tests, bad) for bad in sets_up_to(plan.many, most)]
-    every = all_bits(len(tests))
-    bits = {}
+    bits = UnitBits(plan, tests)
+    marks = [bits.marks_of(bad) for bad in sets_up_to(plan.many, most)]
+    found = {}
     for at, (bads, goods, silents) in enumerate(marks):
         for others in marks[at + 1:]:
-            bits[every ^ (bads & others[0] | goods & others[1] | silents & others[2])] = True
-    return bits
+            found[bits.every ^ (bads & others[0] | goods & others[1] | silents & others[2])] = True
+    return found
